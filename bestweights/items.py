@@ -2,14 +2,21 @@
 
 from bestweights.lists import read_list
 from bestweights.looks import few_looks
-from bestweights.order import are_weights, in_order, scores_of
+from bestweights.order import are_weights, in_order, rank_of, scores_of
+from bestweights.shares import best_at, best_span, pairs_of, pieces_of
 
 LOAD = 0
 SCORES = 1
 TOP = 2
-# For each call, load to looks, how many numbers stand between its own and the length of its row.
-SINGLE_NUMBERS = (0, 0, 1, 1)
+LOOKS = 3
+BETWEEN = 5
+AT = 6
+# For each call, load to shares, how many numbers stand between its own and its row, or the next call.
+SINGLE_NUMBERS = (0, 0, 1, 1, 1, 2, 4, 3)
+# The calls from load to rank have a row behind those, the others have none.
+LAST_WITH_ROW = 4
 MOST_WANTED = 16
+GREATEST_DENOMINATOR = 1000
 
 
 class Holder:
@@ -63,18 +70,90 @@ def answer_looks(listing, k, weights):
     return [depth, looked, seen, len(best)] + best
 
 
-def answer_call(holder, call, singles, row):
-    """What one call answers: its numbers, a refusal's alone."""
-    if call == LOAD:
-        return answer_load(holder, row)
-    listing = holder.listing
-    if listing is None:
-        return [-1]
+def is_item(listing, i):
+    """Whether there is an item with this number."""
+    return 0 <= i < len(listing.goods)
+
+
+def are_two_measures(listing, m, k):
+    """Whether there are measures with these numbers, and they are not the same."""
+    measure_count = len(listing.signs)
+    return 0 <= m < measure_count and 0 <= k < measure_count and m != k
+
+
+def answer_rank(listing, i, weights):
+    """What rank answers."""
+    if not is_item(listing, i):
+        return [-2]
+    if not are_weights(weights, len(listing.signs)):
+        return [-4]
+    rank, same = rank_of(i, scores_of(listing.goods, weights))
+    return [1, rank, same]
+
+
+def answer_between(listing, m, k):
+    """What between answers."""
+    if not are_two_measures(listing, m, k):
+        return [-5]
+    pieces = pieces_of(pairs_of(listing.goods, m, k))
+    told = [len(pieces)]
+    for item, start, end in pieces:
+        told.extend([item, start[0], start[1], end[0], end[1]])
+    return told
+
+
+def answer_at(listing, m, k, p, q):
+    """What at answers."""
+    if not are_two_measures(listing, m, k):
+        return [-5]
+    if not 1 <= q <= GREATEST_DENOMINATOR or not 0 <= p <= q:
+        return [-6]
+    best = best_at(pairs_of(listing.goods, m, k), p, q)
+    return [len(best)] + best
+
+
+def answer_shares(listing, i, m, k):
+    """What shares answers."""
+    if not is_item(listing, i):
+        return [-2]
+    if not are_two_measures(listing, m, k):
+        return [-5]
+    span = best_span(pairs_of(listing.goods, m, k), i)
+    if span is None:
+        return [0]
+    least, greatest = span
+    return [1, least[0], least[1], greatest[0], greatest[1]]
+
+
+def answer_with_row(listing, call, singles, row):
+    """What a call that has a row of weights answers while there is a list."""
     if call == SCORES:
         return answer_scores(listing, row)
     if call == TOP:
         return answer_top(listing, singles[0], row)
-    return answer_looks(listing, singles[0], row)
+    if call == LOOKS:
+        return answer_looks(listing, singles[0], row)
+    return answer_rank(listing, singles[0], row)
+
+
+def answer_without_row(listing, call, singles):
+    """What a call that has no row answers while there is a list."""
+    if call == BETWEEN:
+        return answer_between(listing, singles[0], singles[1])
+    if call == AT:
+        return answer_at(listing, singles[0], singles[1], singles[2], singles[3])
+    return answer_shares(listing, singles[0], singles[1], singles[2])
+
+
+def answer_call(holder, call, singles, row):
+    """What one call answers: its numbers, a refusal's alone."""
+    if call == LOAD:
+        return answer_load(holder, row)
+    if holder.listing is None:
+        return [-1]
+    if call <= LAST_WITH_ROW:
+        return answer_with_row(holder.listing, call, singles, row)
+    return answer_without_row(holder.listing, call, singles)
 
 
 def answers(calls):
@@ -84,10 +163,12 @@ def answers(calls):
     place = 0
     while place < len(calls):
         call = calls[place]
-        length_place = place + 1 + SINGLE_NUMBERS[call]
-        behind = length_place + 1 + calls[length_place]
-        singles = calls[place + 1:length_place]
-        row = calls[length_place + 1:behind]
+        behind = place + 1 + SINGLE_NUMBERS[call]
+        singles = calls[place + 1:behind]
+        row = []
+        if call <= LAST_WITH_ROW:
+            row = calls[behind + 1:behind + 1 + calls[behind]]
+            behind += 1 + len(row)
         answer = answer_call(holder, call, singles, row)
         told.append(len(answer))
         told.extend(answer)

@@ -26,3 +26,9 @@ def scores_of(goods, weights):
 def in_order(chosen, worths):
     """Chosen items by what each item is worth, the greater first, of alike ones the one with the lesser number."""
     return sorted(chosen, key=lambda item: (-worths[item], item))
+
+
+def rank_of(item, scores):
+    """An item's rank, 1 more than how many have a greater score, and how many have the same."""
+    greater = [score for score in scores if score > scores[item]]
+    return 1 + len(greater), scores.count(scores[item])

@@ -117,10 +117,10 @@ def changed(text, source):
 
 class BesideSecondReader(unittest.TestCase):
     def check(self, texts):
-        """Forty texts at a time, each with just the answer that the second reader has."""
+        """Twenty texts at a time, each with just the answer that the second reader has."""
         codes = set()
-        for start in range(0, len(texts), 40):
-            some = texts[start:start + 40]
+        for start in range(0, len(texts), 20):
+            some = texts[start:start + 20]
             for text, told in zip(some, ask(*[load(text) for text in some])):
                 self.assertEqual(told, second_answer(text), repr(text))
                 codes.add(told[1] if told[0] == 0 else 0)

@@ -3,27 +3,9 @@
 import random
 import unittest
 
-from calling import WORKED, ask, ask_of, goods_of, load, looks, made_lists, made_weights, one_form, score
+from calling import WORKED, ask, ask_of, goods_of, load, looks, looks_by_words, made_lists, made_weights, one_form
 
 GREAT = 10 ** 18
-
-
-def told_by_words(goods, weights, k):
-    """The answer of looks, step by step as the words tell it."""
-    weighing = [m for m, weight in enumerate(weights) if weight > 0]
-    lists = [sorted(range(len(goods)), key=lambda i: (-goods[i][m], i)) for m in weighing]
-    depth, seen = 0, set()
-    while k > 0 and depth < len(goods):
-        depth += 1
-        limit = 0
-        for m, one_list in zip(weighing, lists):
-            item = one_list[depth - 1]
-            seen.add(item)
-            limit += weights[m] * goods[item][m]
-        if len([i for i in seen if score(goods[i], weights) > limit]) >= k:
-            break
-    best = sorted(seen, key=lambda i: (-score(goods[i], weights), i))[:k]
-    return [depth, depth * len(lists), len(seen), len(best)] + best
 
 
 class Looks(unittest.TestCase):
@@ -99,7 +81,7 @@ class Looks(unittest.TestCase):
         for ups, rows in made_lists(400, 32):
             weights = made_weights(len(ups), source)
             k = source.randint(0, 16) if source.random() < 0.3 else source.randint(0, 3)
-            wanted = told_by_words(goods_of(ups, rows), weights, k)
+            wanted = looks_by_words(goods_of(ups, rows), weights, k)
             self.assertEqual(ask_of(one_form(ups, rows), looks(k, *weights)), [wanted])
             depths.add(wanted[0])
         self.assertTrue(depths.issuperset(range(12)))
